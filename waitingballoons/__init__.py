@@ -1,0 +1,1 @@
+"""Several balloons let go from one field: who waits, and where they land."""
