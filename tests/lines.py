@@ -35,6 +35,18 @@ def check(*plan):
     return call(3, plan)
 
 
+def best():
+    return call(4, [])
+
+
+def soonest():
+    return call(5, [])
+
+
+def lands(number, waits):
+    return call(6, [number, waits])
+
+
 def line(*calls):
     return [number for one in calls for number in one]
 

@@ -1,9 +1,10 @@
 """Many made-up lines, held against a second telling of the document: hour by hour, all balloons at once."""
 
+import itertools
 import random
 import unittest
 
-from lines import HUGE, balloon, begins, check, hour, line, apart
+from lines import HUGE, apart, balloon, begins, best, check, hour, lands, line, soonest
 from waitingballoons.field import answers
 
 
@@ -12,7 +13,8 @@ class Model:
         self.heights, self.near, self.wait, self.hours, self.balloons = 1, 0, 0, [], []
 
     def answer(self, number, told):
-        return [self.begins, self.hour, self.balloon, self.check][number](told)
+        calls = [self.begins, self.hour, self.balloon, self.check, self.best, self.soonest, self.lands]
+        return calls[number](told)
 
     def begins(self, told):
         if told[0] not in (1, 2, 3, 4) or told[1] > 1000 or told[2] > 3:
@@ -60,6 +62,39 @@ class Model:
                 return [-6, number, *min(close)]
         return [max(down + [0]), *[number for place in places for number in place]]
 
+    def sorted_plans(self, by_waiting):
+        """All plans that can be, each behind its two numbers; the first is the one asked for."""
+        found = []
+        for plan in itertools.product(range(self.wait, -1, -1), repeat=len(self.balloons)):
+            behind = self.check(plan)[0]
+            if behind >= 0:
+                found.append(((sum(plan), behind) if by_waiting else (behind, sum(plan)), plan))
+        return sorted(found)
+
+    def least(self, by_waiting):
+        found = self.sorted_plans(by_waiting)
+        if not found:
+            return [-6]
+        return [*found[0][0], sum(one[0] == found[0][0] for one in found), *found[0][1]]
+
+    def best(self, told):
+        return self.least(True)
+
+    def soonest(self, told):
+        return self.least(False)
+
+    def lands(self, told):
+        number, waits = told
+        if number not in range(len(self.balloons)):
+            return [-2]
+        if waits > self.wait:
+            return [-1]
+        alone = Model()
+        alone.heights, alone.wait, alone.hours = self.heights, self.wait, self.hours
+        alone.balloons = [self.balloons[number]]
+        answer = alone.check([waits])
+        return answer[:1] if answer[0] < 0 else answer
+
 
 def made_begins(luck):
     return begins(luck.choice([1, 2, 2, 3, 4, 0, 5]), luck.choice([0, 9, 100, 1000, 1000, 1001, HUGE]),
@@ -87,6 +122,10 @@ def made_line(luck):
     for _ in range(luck.randint(3, 12)):
         count = min(balloons, 4) if luck.random() < 0.9 else luck.randint(0, 6)
         calls.append(check(*[luck.choice([0, 0, 1, 1, 2, 3]) for _ in range(count)]))
+    for _ in range(luck.randint(0, 4)):
+        calls.append(lands(luck.choice([0, 0, 1, 1, 2, 3, 4, HUGE]), luck.choice([0, 0, 1, 2, 3, 4, HUGE])))
+    asked = [best(), soonest()] * luck.choice([0, 1, 1, 3]) if luck.random() < 0.5 else []
+    calls = calls[:40 - len(asked)] + asked
     if luck.random() < 0.2:
         luck.shuffle(calls)
     return calls
@@ -105,8 +144,33 @@ class ManyLines(unittest.TestCase):
                 kind = (one[0], min(answer[0], 0))
                 seen[kind] = seen.get(kind, 0) + 1
         for kind in ((0, 0), (0, -1), (1, 0), (1, -1), (1, -5), (2, 0), (2, -1), (2, -5),
-                     (3, 0), (3, -1), (3, -7), (3, -6)):
+                     (3, 0), (3, -1), (3, -7), (3, -6), (4, 0), (4, -6), (5, 0), (5, -6),
+                     (6, 0), (6, -2), (6, -1), (6, -7)):
             self.assertGreater(seen.get(kind, 0), 100, kind)
+
+    def test_best_and_soonest_in_crowds(self):
+        """Crowded fields, where many plans can be and many can't."""
+        luck = random.Random(128)
+        different = 0
+        several = 0
+        none = 0
+        for _ in range(300):
+            heights = luck.choice([1, 2, 2])
+            calls = [begins(heights, luck.choice([4, 9, 25, 60]), luck.choice([2, 3]))]
+            calls += [hour(*[luck.randint(7, 11) for _ in range(2 * heights)]) for _ in range(luck.choice([6, 7, 8]))]
+            for _ in range(luck.choice([2, 3, 3, 4])):
+                flight = [luck.randrange(heights) for _ in range(luck.choice([0, 1, 1, 2, 4, 5]))]
+                calls.append(balloon(luck.randint(97, 103), luck.randint(97, 103), *flight))
+            calls += [best(), soonest()]
+            model = Model()
+            wanted = [model.answer(one[0], one[2:-1]) for one in calls]
+            self.assertEqual(apart(answers(line(*calls))), wanted, calls)
+            different += wanted[-2][3:] != wanted[-1][3:]
+            several += wanted[-2][0] > 0 and wanted[-2][2] > 1
+            none += wanted[-1] == [-6]
+        self.assertGreater(different, 10)
+        self.assertGreater(several, 10)
+        self.assertGreater(none, 10)
 
 
 if __name__ == "__main__":

@@ -1,6 +1,8 @@
 """The calls on one field, from a flat list of numbers to a flat list of answers."""
 
-from waitingballoons.flights import all_down_behind, first_beyond_hours, first_too_near, landing
+from waitingballoons.flights import all_down_behind, down_behind, first_beyond_hours, first_too_near
+from waitingballoons.flights import is_beyond_hours, landing
+from waitingballoons.plans import least_of, plans_that_can_be
 from waitingballoons.told import Balloon, Field
 
 MOST_HEIGHTS = 4
@@ -15,8 +17,10 @@ WIND_ADDED = 9
 PLACE_ADDED = 100
 
 WRONG = -1
+NO_BALLOON = -2
 TOO_MANY = -5
 TOO_NEAR = -6
+NO_PLAN = -6
 BEYOND_HOURS = -7
 
 
@@ -74,8 +78,38 @@ def check(field, plan):
     return answer
 
 
+def best(field, told):
+    """Answers the call best; nothing is told with it."""
+    plans = plans_that_can_be(field)
+    if len(plans) == 0:
+        return [NO_PLAN]
+    return least_of(plans, [[sum(plan), all_down_behind(field, plan)] for plan in plans])
+
+
+def soonest(field, told):
+    """Answers the call soonest; nothing is told with it."""
+    plans = plans_that_can_be(field)
+    if len(plans) == 0:
+        return [NO_PLAN]
+    return least_of(plans, [[all_down_behind(field, plan), sum(plan)] for plan in plans])
+
+
+def lands(field, told):
+    """Answers the call lands."""
+    number = told[0]
+    waits = told[1]
+    if number >= len(field.balloons):
+        return [NO_BALLOON]
+    if waits > field.longest_wait:
+        return [WRONG]
+    asked = field.balloons[number]
+    if is_beyond_hours(field, asked, waits):
+        return [BEYOND_HOURS]
+    return [down_behind(asked, waits)] + landing(field, asked, waits)
+
+
 # A call's number is its place here.
-CALLS = (begins, hour, balloon, check)
+CALLS = (begins, hour, balloon, check, best, soonest, lands)
 
 
 def split_calls(calls):

@@ -34,10 +34,15 @@ def landing(field, balloon, waits):
     return [behind_last[1], behind_last[2]]
 
 
+def is_beyond_hours(field, balloon, waits):
+    """Whether the balloon waits and flies, together, for more hours than are told."""
+    return down_behind(balloon, waits) > len(field.hours)
+
+
 def first_beyond_hours(field, plan):
     """The first balloon that waits and flies for more hours than are told, or None."""
     for number, balloon in enumerate(field.balloons):
-        if down_behind(balloon, plan[number]) > len(field.hours):
+        if is_beyond_hours(field, balloon, plan[number]):
             return number
     return None
 
